@@ -1,0 +1,1 @@
+"""Hushlink: a secure channel between ends."""
