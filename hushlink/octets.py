@@ -56,11 +56,10 @@ def unpack(data):
         if len(parts) == MOST_PARTS:
             raise Malformed("there are too many parts")
         body = start + LENGTH_SIZE
-        if body > len(data):
-            raise Malformed("the bytes end within a length")
+        # If the bytes end within the length, its part would end even later.
         end = body + from_big(data[start:body])
         if end > len(data):
-            raise Malformed("the bytes end within a part")
+            raise Malformed("the bytes end within a length or a part")
         parts.append(data[body:end])
         start = end
     return parts

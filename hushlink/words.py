@@ -11,6 +11,11 @@ def add_words(first, second):
     return (first + second) & WORD_MASK
 
 
+def subtract_words(first, second):
+    """Return the difference modulo 4294967296."""
+    return (first - second) & WORD_MASK
+
+
 def rotate_left(word, count):
     """Return the word with each bit moved count places up, around the top."""
     return (word << count | word >> (32 - count)) & WORD_MASK

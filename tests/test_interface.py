@@ -17,11 +17,33 @@ FUNCTIONS = {
     "limbs": ["is_tight(limbs)", "is_loose(limbs)", "to_limbs(a)", "from_limbs(limbs)",
               "carry(limbs)", "add_limbs(a, b)", "subtract_limbs(a, b)", "multiply_limbs(a, b)",
               "scale_limbs(a, k)", "swap_limbs(bit, a, b)", "invert_limbs(a)"],
+    "exchange": ["exchange(secret, public)", "public_key(secret)", "is_weak(public)",
+                 "agree(secret, public)", "exchange_limbs(secret, public)"],
+    "rounds": ["choose(x, y, z)", "majority(x, y, z)", "sum_zero(x)", "sum_one(x)",
+               "turn_zero(x)", "turn_one(x)", "round_constants()", "start_words()",
+               "schedule(block)", "schedule_start(last)", "round_step(words, added)",
+               "round_back(words, added)", "compress(words, block)"],
+    "digest": ["padding(length)", "digest(data)", "digest_parts(parts)"],
+    "keyed": ["key_block(key)", "keyed(key, data)", "keyed_parts(key, parts)",
+              "is_keyed(key, data, tag)"],
+    "derive": ["extract(salt, secret)", "expand(key, information, size)",
+               "derive(salt, secret, information, size)"],
+    "stream": ["quarter_round(a, b, c, d)", "quarter_round_back(a, b, c, d)",
+               "start_state(key, counter, nonce)", "double_round(state)",
+               "double_round_back(state)", "block(key, counter, nonce)",
+               "key_stream(key, nonce, size, *, counter=0)",
+               "apply_stream(key, nonce, text, *, counter=0)"],
     "ladder": ["clamp(secret)", "scalar(secret)", "double(point)", "add_points(low, high, u)",
                "ladder(n, u)", "affine(point)", "curve_side(u)"],
 }
 
-CLASSES = {}
+CLASSES = {
+    ("digest", "Digester()"): ["add(self, data)", "told(self)", "length(self)", "twin(self)",
+                               "state(self)"],
+    ("keyed", "Keyer(key)"): ["add(self, data)", "told(self)", "twin(self)"],
+    ("stream", "StreamReader(key, nonce, *, counter=0)"): [
+        "take(self, size)", "apply(self, text)", "position(self)", "twin(self)"],
+}
 
 ERRORS = ["HushError", "OutOfRange", "Malformed", "NotAuthentic", "Exhausted", "OutOfOrder",
           "Refused", "PowerLost", "BadLine"]

@@ -102,9 +102,10 @@ class Carrying(HushCase):
             self.assertTrue(all(0 <= limb < 2 ** 51 for limb in carried))
 
     def test_the_third_pass_is_needed(self):
-        limbs = [2 ** 51 - 1] + [2 ** 51 - 1] * 3 + [2 ** 103]
+        # The second pass carries through all limbs and fills the first one again.
+        limbs = [2 ** 51 - 1] * 4 + [2 ** 111 + 2 ** 51 - 1]
         self.assertEqual(carry(limbs), passes(limbs))
-        self.assertTrue(is_tight(carry(limbs)))
+        self.assertEqual(carry(limbs), [18, 19 * 2 ** 9, 0, 0, 0])
 
     def test_carry_keeps_and_returns_a_new_list(self):
         self.assert_keeps(carry, [2 ** 60] * 5)

@@ -1,7 +1,7 @@
 import unittest
 
 from hushlink.words import (add_words, bytes_big, bytes_little, rotate_left, rotate_right,
-                            words_big, words_little)
+                            subtract_words, words_big, words_little)
 from support import HushCase, some_bytes, some_number
 
 WORDS = [0, 1, 2, 255, 65536, 0x80000000, 0x80000001, 0x12345678, 0xdeadbeef, 4294967294,
@@ -21,6 +21,11 @@ class Words(HushCase):
                 self.assertEqual(add_words(first, second), (first + second) % 2 ** 32)
         self.assertEqual(add_words(4294967295, 1), 0)
         self.assertEqual(add_words(4294967295, 4294967295), 4294967294)
+
+    def test_differences(self):
+        for first in WORDS:
+            for second in WORDS:
+                self.assertEqual(subtract_words(first, second), (first - second) % 2 ** 32)
 
     def test_rotations(self):
         for word in WORDS:
