@@ -43,6 +43,8 @@ CLASSES = {
     ("keyed", "Keyer(key)"): ["add(self, data)", "told(self)", "twin(self)"],
     ("stream", "StreamReader(key, nonce, *, counter=0)"): [
         "take(self, size)", "apply(self, text)", "position(self)", "twin(self)"],
+    ("tag", "Tagger(key)"): ["add(self, text)", "told(self)", "twin(self)"],
+    ("pattern", "Pattern(name, before, messages)"): [],
 }
 
 ERRORS = ["HushError", "OutOfRange", "Malformed", "NotAuthentic", "Exhausted", "OutOfOrder",
@@ -83,6 +85,9 @@ class Interface(unittest.TestCase):
 
     def test_prime(self):
         self.assertEqual(vars(module("field"))["PRIME"], 2 ** 255 - 19)
+
+    def test_pattern_names(self):
+        self.assertIsInstance(vars(module("catalog"))["PATTERN_NAMES"], tuple)
 
 
 if __name__ == "__main__":
