@@ -4,33 +4,13 @@ from unittest import mock
 from hushlink.errors import Refused
 from hushlink.exchange import agree, exchange, exchange_limbs, is_weak, public_key
 from hushlink.ladder import clamp, curve_side
-from plain_curve import P, multiple, multiple_point
+from plain_curve import (P, STRONG, WEAK, key_bytes, multiple, multiple_point, weak_keys,
+                         with_highest_bit)
 from support import HushCase, some_bytes, some_number
-
-# The u-coordinates of the points whose order divides 8.
-WEAK = [0, 1, P - 1,
-        325606250916557431795983626356110631294008115727848805560023387167927233504,
-        39382357235489614581723060781553021112529911719440698176882885853963445705823]
-# The bytes of these have the highest bit clear and are less than the prime.
-STRONG = [2, 3, 4, 5, 6, 9, P - 2, P - 9, some_number(254), some_number(254, 2)]
-
-
-def key_bytes(number):
-    return list(number.to_bytes(32, "little"))
 
 
 def from_hex(text):
     return list(bytes.fromhex(text))
-
-
-def with_highest_bit(public):
-    return public[:31] + [public[31] | 128]
-
-
-def weak_keys():
-    """All 32 bytes that are read as one of the weak u-coordinates."""
-    keys = [key_bytes(u) for u in WEAK] + [key_bytes(u + P) for u in WEAK if u + P < 2 ** 255]
-    return keys + [with_highest_bit(key) for key in keys]
 
 
 def secrets():

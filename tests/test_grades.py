@@ -167,7 +167,8 @@ class Grades(HushCase):
 
     def test_other_patterns(self):
         for text in ("-> e", "<- e", "-> s", "-> e\n<- e", "-> s\n...\n-> e\n<- e, se",
-                     "-> e\n<- e, ee\n-> s\n<- se\n-> psk\n<- s\n-> es", "<- e\n-> e, ee, s, se"):
+                     "-> e\n<- e, ee\n-> s\n<- se\n-> psk\n<- s\n-> es", "<- e\n-> e, ee, s, se",
+                     "-> s\n<- s\n...\n-> e, ss\n<- e, ee", "-> s\n<- s\n...\n<- e, ss\n-> e, ee"):
             pattern = parse_pattern(text)
             self.assertEqual(grades(pattern), plain_grades(pattern), text)
 

@@ -35,7 +35,28 @@ FUNCTIONS = {
                "apply_stream(key, nonce, text, *, counter=0)"],
     "ladder": ["clamp(secret)", "scalar(secret)", "double(point)", "add_points(low, high, u)",
                "ladder(n, u)", "affine(point)", "curve_side(u)"],
+    "tag": ["clamp(data)", "tag(key, text)", "plain_tag(key, text)", "to_limbs(number)",
+            "from_limbs(limbs)", "carry_limbs(limbs)", "multiply_limbs(first, second)"],
+    "sealing": ["one_time_key(key, nonce)", "tagged_text(data, ciphertext)",
+                "seal(key, nonce, data, text)", "open_sealed(key, nonce, data, sealed)",
+                "nonce_of(number)"],
+    "pattern": ["parse_pattern(text)", "write_pattern(pattern)"],
+    "rules": ["broken_rule(pattern)", "needs_secret(pattern, *, opener)",
+              "needs_peer(pattern, *, opener)", "sends_secret(pattern, *, opener)",
+              "uses_psk(pattern)"],
+    "catalog": ["pattern_named(name)", "add_psk(pattern, place)", "fall_back(pattern)"],
+    "grades": ["can_compute(token, keys)", "is_open(pattern, index, keys)",
+               "can_forge(pattern, index, keys)", "grades(pattern)"],
+    "small": ["small_power(base, exponent)", "small_exponent(secret)", "small_mix(pair, number)",
+              "small_digest(data)", "small_stream(key, number, size)"],
+    "numbered": ["two_values(suite, chain, data)", "three_values(suite, chain, data)"],
+    "sending": ["next_key(suite, key)", "frame_size(suite, size, *, padding=1)"],
 }
+
+SUITE_METHODS = [
+    "public(self, secret)", "is_weak(self, public)", "exchange(self, secret, public)",
+    "digest(self, data)", "keyed(self, key, data)", "seal(self, key, number, data, text)",
+    "open_sealed(self, key, number, data, sealed)"]
 
 CLASSES = {
     ("digest", "Digester()"): ["add(self, data)", "told(self)", "length(self)", "twin(self)",
@@ -45,6 +66,22 @@ CLASSES = {
         "take(self, size)", "apply(self, text)", "position(self)", "twin(self)"],
     ("tag", "Tagger(key)"): ["add(self, text)", "told(self)", "twin(self)"],
     ("pattern", "Pattern(name, before, messages)"): [],
+    ("suites", "StandardSuite()"): SUITE_METHODS,
+    ("suites", "SmallSuite()"): SUITE_METHODS,
+    ("numbered", "NumberedKey(suite, key)"): [
+        "seal(self, data, text)", "open_sealed(self, data, sealed)", "has_key(self)",
+        "number(self)", "twin(self)", "state(self)"],
+    ("transcript", "Transcript(suite, label)"): [
+        "mix_data(self, data)", "mix_key(self, data)", "mix_both(self, data)", "seal(self, text)",
+        "open_sealed(self, sealed)", "hash(self)", "has_key(self)", "split(self)", "twin(self)",
+        "state(self)"],
+    ("handshake", "Handshake(suite, pattern, *, opener, prologue=(), secret=None, ephemeral=None, "
+                  "peer=None, peer_ephemeral=None, psk=None)"): [
+        "write(self, payload)", "read(self, message)", "overhead(self)", "is_done(self)",
+        "writes_next(self)", "hash(self)", "peer(self)", "split(self)", "state(self)"],
+    ("sending", "Sender(suite, key, *, padding=1, limit=1048576, piece=16384)"): [
+        "message(self, data)", "change_key(self)", "close(self)", "alarm(self, code=0)",
+        "sent(self)", "state(self)"],
 }
 
 ERRORS = ["HushError", "OutOfRange", "Malformed", "NotAuthentic", "Exhausted", "OutOfOrder",
