@@ -343,6 +343,36 @@ class Turns(HushCase):
         self.assertFalse(hasattr(suite, "seals"))
 
 
+    def test_a_suite_that_fails_in_the_middle_of_a_message(self):
+        class FailingSuite(SmallSuite):
+            def __init__(self):
+                SmallSuite.__init__(self)
+                self.fails = False
+
+            def seal(self, key, number, data, text):
+                if self.fails:
+                    raise ValueError
+                return SmallSuite.seal(self, key, number, data, text)
+
+            def open_sealed(self, key, number, data, sealed):
+                if self.fails:
+                    raise ValueError
+                return SmallSuite.open_sealed(self, key, number, data, sealed)
+
+        suite = FailingSuite()
+        writer, reader = advance(*ends(suite, "XX"), 1)
+        states = (writer.state(), reader.state())
+        message = advance(*ends(suite, "XX"), 1)[0].write([1])
+        suite.fails = True
+        for function, argument in ((writer.write, [1]), (reader.read, message)):
+            with self.assertRaises(ValueError):
+                function(argument)
+            self.assertEqual((writer.state(), reader.state()), states)
+        suite.fails = False
+        self.assertEqual(writer.write([1]), message)
+        self.assertEqual(reader.read(message), [1])
+
+
 class WrongMessages(HushCase):
     def assert_stays(self, error, reader, message):
         state = reader.state()

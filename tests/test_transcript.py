@@ -148,6 +148,12 @@ class Mixing(HushCase):
                 with self.assertRaises(ValueError):
                     function([0] * 101)
                 self.assertEqual(transcript.state(), state)
+            wide = Transcript(SmallSuite(), LABEL)
+            if has_key:
+                wide.mix_key([1])
+            with self.assertRaises(ValueError):
+                transcript.open_sealed(wide.seal([0] * 101))
+            self.assertEqual(transcript.state(), state)
             self.assertEqual(transcript.open_sealed(sealed), [0] * 70)
 
 
