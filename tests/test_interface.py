@@ -51,6 +51,10 @@ FUNCTIONS = {
               "small_digest(data)", "small_stream(key, number, size)"],
     "numbered": ["two_values(suite, chain, data)", "three_values(suite, chain, data)"],
     "sending": ["next_key(suite, key)", "frame_size(suite, size, *, padding=1)"],
+    "entries": ["byte_sum(data)", "write_record(kind, body)", "read_records(data)",
+                "is_name(value)", "name_bytes(name)", "bytes_name(data)"],
+    "store": ["prepare(suite, disk, seed, secret)"],
+    "accepting": ["accepts(rule, store, name, key)", "check_rule(rule, key_size)"],
 }
 
 SUITE_METHODS = [
@@ -82,6 +86,22 @@ CLASSES = {
     ("sending", "Sender(suite, key, *, padding=1, limit=1048576, piece=16384)"): [
         "message(self, data)", "change_key(self)", "close(self)", "alarm(self, code=0)",
         "sent(self)", "state(self)"],
+    ("receiving", "Receiver(suite, key, *, limit=1048576)"): [
+        "receive(self, data)", "over(self)", "state(self)"],
+    ("letters", "Window(size)"): ["fresh(self, number)", "take(self, number)", "state(self)"],
+    ("letters", "LetterSender(suite, key, *, padding=1)"): [
+        "letter(self, data)", "skip(self, count)", "number(self)"],
+    ("letters", "LetterReceiver(suite, key, *, size=64)"): ["receive(self, letter)",
+                                                           "state(self)"],
+    ("disk", "Disk()"): [
+        "write(self, bank, data)", "settle(self, bank)", "cut(self, bank, length)",
+        "read(self, bank)", "pending(self)", "arm(self, deeds)", "has_power(self)",
+        "crash(self, kept, torn)", "crashes(self)"],
+    ("store", "Store(suite, disk)"): [
+        "seed(self)", "secret(self)", "next_number(self)", "ephemeral(self, number)",
+        "fresh(self)", "keep_name(self, name, key)", "release(self, name, key)",
+        "name_key(self, name)", "key_names(self, key)", "names(self)", "pack(self)",
+        "state(self)"],
 }
 
 ERRORS = ["HushError", "OutOfRange", "Malformed", "NotAuthentic", "Exhausted", "OutOfOrder",
