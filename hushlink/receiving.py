@@ -44,7 +44,7 @@ class Receiver:
         self.parts = []
         self.rest = []
         # The bytes of the rest before this place were handled.
-        self.start = 0
+        self.handled = 0
         self.ending = ""
 
     def receive(self, data):
@@ -65,10 +65,10 @@ class Receiver:
     def step(self):
         """Return the next event of the bytes that are kept, or None."""
         while not self.over():
-            body = self.start + LENGTH_SIZE
+            body = self.handled + LENGTH_SIZE
             if len(self.rest) < body:
                 return None
-            head = self.rest[self.start:body]
+            head = self.rest[self.handled:body]
             size = from_big(head)
             extra = self.suite.tag_size
             if not HEAD_SIZE + extra <= size <= MOST_RECORD + extra:
@@ -84,11 +84,11 @@ class Receiver:
 
     def move_on(self, place):
         """Take the bytes before the place as handled."""
-        self.start = place
+        self.handled = place
         # Not after each frame: many short frames would make this slow.
         if 2 * place > len(self.rest):
             self.rest = self.rest[place:]
-            self.start = 0
+            self.handled = 0
 
     def treat(self, head, sealed):
         """Return the event of a frame, or None if it has none."""
@@ -144,7 +144,7 @@ class Receiver:
         self.used = 0
         self.parts = []
         self.rest = []
-        self.start = 0
+        self.handled = 0
         return event
 
     def over(self):
@@ -153,6 +153,6 @@ class Receiver:
 
     def state(self):
         """Return what the receiver knows, and how it has ended."""
-        rest = self.rest[self.start:]
+        rest = self.rest[self.handled:]
         return ("receiver", tuple(self.key), self.used, self.many, tuple(self.parts), tuple(rest),
                 self.ending)

@@ -55,6 +55,13 @@ FUNCTIONS = {
                 "is_name(value)", "name_bytes(name)", "bytes_name(data)"],
     "store": ["prepare(suite, disk, seed, secret)"],
     "accepting": ["accepts(rule, store, name, key)", "check_rule(rule, key_size)"],
+    "watch": ["forgeries(entries)", "coincidences(entries)", "crossings(entries)",
+              "clashes(entries)"],
+    "judge": ["posted(trace, wire, side)", "taken(trace, wire, side)", "came(trace, wire, side)",
+              "ready(trace, wire, side)", "partners(trace, wire, side)", "broken(net)",
+              "excused(net, wire, side)"],
+    "scenario": ["read_scenario(text)", "write_scenario(deeds)", "play(net, text)",
+                 "report(entries)"],
 }
 
 SUITE_METHODS = [
@@ -102,6 +109,22 @@ CLASSES = {
         "fresh(self)", "keep_name(self, name, key)", "release(self, name, key)",
         "name_key(self, name)", "key_names(self, key)", "names(self)", "pack(self)",
         "state(self)"],
+    ("options", "Options(suite, store, patterns, prologue, psk, rule, limits)"): [
+        "pattern(self, name)"],
+    ("connection", "Connection(options, link, name, opener)"): [
+        "begin(self)", "receive(self, data)", "post(self, message)", "fetch(self)",
+        "finish(self)", "cut_link(self)", "tick(self, count)", "stage(self)"],
+    ("ends", "End(suite, store, *, patterns=('XX',), prologue=(), psk=None, rule=('any',), "
+             "limits=(100, 0, 1000, 65536, 4))"): [
+        "start(self, link, name=None)", "answer(self, link, name=None)",
+        "receive(self, link, data)", "post(self, link, message)", "fetch(self, link)",
+        "finish(self, link)", "cut_link(self, link)", "tick(self, count=1)", "links(self)",
+        "stage(self, link)", "public_key(self)"],
+    ("watch", "Log()"): ["entries(self)", "add(self, entry)", "go_to(self, wire, side)"],
+    ("watch", "WatchedSuite(suite, log, home)"): SUITE_METHODS,
+    ("net", "Net(suite, homes, *, prologue=())"): [
+        "do(self, deed)", "trace(self)", "entries(self)", "pieces(self, wire, way)",
+        "wires(self)", "public_key(self, home)", "is_down(self, home)", "end(self, home)"],
 }
 
 ERRORS = ["HushError", "OutOfRange", "Malformed", "NotAuthentic", "Exhausted", "OutOfOrder",

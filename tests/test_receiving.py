@@ -131,6 +131,10 @@ class Constructor(HushCase):
         receiver.used = sender.used = 1048575
         data = sender.message([1])
         self.assertEqual(receiver.receive(data), [("changed",), ("message", [1])])
+        receiver = Receiver(SMALL, key_of(SMALL))
+        receiver.used = 1048574
+        data = frame(SMALL, 1048574, record(1, [1])) + frame(SMALL, 1048575, record(1, [1]))
+        self.assertEqual(receiver.receive(data), [("message", [1]), ("failed", "order")])
 
 
 class Channel(HushCase):

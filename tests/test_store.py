@@ -238,7 +238,8 @@ class Opening(HushCase):
                     named(4, "b", key[1:]), named(4, "b", key + [0]), named(5, "a", key[1:]),
                     named(5, "a", key + [0]), named(4, "B", key), named(4, "", key),
                     named(4, "b" * 33, key), named(5, "A", key),
-                    write_record(4, [2, 98] + key), write_record(4, [255, 98] + key))
+                    write_record(4, [2, 98] + key), write_record(4, [255, 98] + key),
+                    named(1, "a", key), named(2, "a", key), named(3, "a", key))
             for record in idle:
                 disk = disk_with(good + record + record)
                 self.assert_state(suite, disk, 1, [("a", key)], 16)
@@ -287,14 +288,20 @@ class Numbers(HushCase):
                 self.assertEqual(store.ephemeral(number), expected)
                 self.assertEqual(store.ephemeral(0), self.plain_ephemeral(suite, 0))
 
-    def test_a_key_of_several_parts(self):
-        class Short(SmallSuite):
-            def keyed(self, key, data):
-                return super().keyed(key, data)[:7]
-        _, store = new_store(Short())
-        data = list(b"hushlink ephemeral") + [0] * 8
-        parts = [Short().keyed(seed_of(SMALL), data + [count]) for count in range(3)]
-        self.assertEqual(store.fresh(), sum(parts, [])[:16])
+    def test_parts(self):
+        """As many parts as the key needs, and no more."""
+        for size, many in ((5, 4), (7, 3), (8, 2), (16, 1)):
+            asked = []
+
+            class Short(SmallSuite):
+                def keyed(self, key, data):
+                    asked.append((key, data))
+                    return super().keyed(key, data)[:size]
+            _, store = new_store(Short())
+            data = list(b"hushlink ephemeral") + [0] * 8
+            parts = [SMALL.keyed(seed_of(SMALL), data + [count])[:size] for count in range(many)]
+            self.assertEqual(store.fresh(), sum(parts, [])[:16])
+            self.assertEqual(asked, [(seed_of(SMALL), data + [count]) for count in range(many)])
 
     def test_reserving(self):
         for suite in SUITES:
@@ -598,6 +605,13 @@ class Packing(HushCase):
             with self.assertRaises(Exhausted):
                 call()
             self.assertEqual((store.state(), disk.read(0), disk.read(1)), before)
+
+    def test_a_packed_store_that_fills_a_bank(self):
+        data, names = full_bank(SMALL, 0)
+        store = Store(SMALL, disk_with(data))
+        store.pack()
+        self.assertEqual((store.state()[0], len(store.disk.read(1))), (2, 65536))
+        self.assertEqual(Store(SMALL, store.disk).names(), sorted(names.items()))
 
     def test_the_last_generation(self):
         disk = disk_with(begin(SMALL, 2 ** 32 - 2) + COMPLETE)
