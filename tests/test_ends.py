@@ -1116,30 +1116,55 @@ class Power(HushCase):
                     two.end.receive(3, last)
                 self.assert_dead(two.end)
 
+    def fragile(self, opener):
+        """A connection under the rule first, and one that goes on with it."""
+        stores = [store_of(SMALL, number) for number in (1, 2)]
+        lines = []
+        for number, store in enumerate(stores):
+            options = Options(SMALL, store, ("XX",), [], None, ("first",), (9, 0, 9, 9, 4))
+            lines.append(Connection(options, 3, ("bob", "ann")[number], number == 0))
+        if opener:
+            return lines[0], lines[1]
+        return lines[1], lines[0]
+
+    def assert_stays(self, line, data, deeds):
+        """Without power the call changes nothing; after a crash it does what it should."""
+        disk = line.options.store.disk
+        disk.arm(deeds)
+        for _ in range(2):
+            with self.assertRaises(PowerLost):
+                line.receive(data)
+            self.assertEqual(line.stage(), "shaking")
+        disk.crash(0, 0)
+        line.options.store = Store(SMALL, disk)
+        return line.receive(data)
+
     def test_a_connection_stays_as_it_was(self):
         """Point 2: an error leaves the state as it was."""
-        one, two = Party(SMALL, 1), Party(SMALL, 2)
-        options = Options(SMALL, two.store, ("XX",), [], None, ("first",), (9, 0, 9, 9, 4))
-        line = Connection(options, 3, "ann", False)
-        piece = one.end.start(3)[0][2]
-        two.disk.arm(0)
-        for _ in range(2):
-            with self.assertRaises(PowerLost):
-                line.receive(piece)
-            self.assertEqual(line.stage(), "shaking")
-        two.disk.crash(0, 0)
-        options.store = Store(SMALL, two.disk)
-        line.receive(piece[:9])
-        answer = line.receive(piece[9:])
-        last = one.end.receive(3, answer[0][2])[0][2]
-        two.disk.arm(1)
-        for _ in range(2):
-            with self.assertRaises(PowerLost):
-                line.receive(last)
-        two.disk.crash(0, 0)
-        options.store = Store(SMALL, two.disk)
-        self.assertEqual(line.receive(last)[0][:4], ("ready", 3, public_of(SMALL, 1), "ann"))
+        for cut in (0, 1, 4, 9):
+            for deeds in (0, 1):
+                line, other = self.fragile(opener=False)
+                piece = other.begin()[0][2]
+                line.receive(piece[:cut])
+                answer = self.assert_stays(line, piece[cut:], deeds)
+                effects = other.receive(answer[0][2])
+                self.assertEqual([effect[0] for effect in effects], ["bytes", "ready"])
+                last = effects[0][2]
+                line.receive(last[:cut])
+                effects = self.assert_stays(line, last[cut:] + other.post([7])[0][2], deeds)
+                self.assertEqual(effects[0][:4], ("ready", 3, public_of(SMALL, 1), "ann"))
+                self.assertEqual(effects[1:], [("waits", 3, 1)])
 
+    def test_an_opener_stays_as_it_was(self):
+        for deeds in (0, 1):
+            line, other = self.fragile(opener=True)
+            answer = other.receive(line.begin()[0][2])[0][2]
+            line.post([8])
+            effects = self.assert_stays(line, answer, deeds)
+            self.assertEqual([effect[0] for effect in effects], ["bytes", "ready", "bytes"])
+            self.assertEqual(effects[1][:4], ("ready", 3, public_of(SMALL, 2), "bob"))
+            effects = other.receive(effects[0][2] + effects[2][2])
+            self.assertEqual([effect[0] for effect in effects], ["ready", "waits"])
 
 class Connections(HushCase):
     """The same, asked of the connections themselves."""
@@ -1179,6 +1204,7 @@ class Connections(HushCase):
                 with self.assertRaises(OutOfOrder):
                     call()
             self.assertEqual(one.cut_link(), [("parted", 1)])
+            self.assertEqual((one.stage(), one.receive([1, 2, 3]), one.tick(9)), ("over", [], []))
 
     def test_effects_are_their_own(self):
         one, two = parties(SMALL, "XX")

@@ -364,6 +364,57 @@ class Driven(HushCase):
             self.assertEqual((broken(net), forgeries(net.entries())), ([], []))
 
 
+class Changes(HushCase):
+    """Points 110 and 111, in whole nets."""
+
+    def run_net(self, name, deed=None, at=None):
+        """Two homes shake hands and talk; before the delivery number at, the deed is done."""
+        net = Net(SMALL, [home(SMALL, number, {"patterns": (name,)}) for number in (1, 2)])
+        net.do(("open", 0, 1, "bob", "ann"))
+        count = 0
+        while net.pieces(0, 0) or net.pieces(0, 1):
+            for way in (0, 1):
+                if net.pieces(0, way):
+                    if count == at:
+                        net.do(deed)
+                    net.do(("deliver", 0, way, 0))
+                    count += 1
+        for side in (0, 1):
+            net.do(("post", 0, side, (4, 5)))
+            net.do(("finish", 0, side))
+        shake(net, 0)
+        for side in (0, 1):
+            net.do(("fetch", 0, side))
+        return net
+
+    def test_nothing_is_changed(self):
+        for name in ("NN", "XX", "IK", "X1K1"):
+            net = self.run_net(name)
+            trace = net.trace()
+            self.assertEqual((partners(trace, 0, 0), partners(trace, 0, 1)), ([(0, 1)], [(0, 0)]))
+            self.assertEqual((taken(trace, 0, 0), taken(trace, 0, 1)), ([(4, 5)], [(4, 5)]))
+            self.assertEqual([entry for entry in trace if entry[3:] == (("over", entry[2]),)],
+                             [effect(0, 1, "over"), effect(0, 0, "over")])
+
+    def test_each_byte_of_a_handshake(self):
+        for name, lengths in (("NN", (21, 26)), ("XX", (21, 50, 34)), ("IK", (53, 26))):
+            for at, length in enumerate(lengths):
+                for place in range(length):
+                    probe = Net(SMALL, [home(SMALL, number, {"patterns": (name,)})
+                                        for number in (1, 2)])
+                    probe.do(("open", 0, 1, "bob", "ann"))
+                    for way in (0, 1, 0)[:at]:
+                        probe.do(("deliver", 0, way, 0))
+                    piece = probe.pieces(0, at % 2)[0]
+                    deed = ("change", 0, at % 2, 0, place, piece[place] ^ (1 + place % 7))
+                    net = self.run_net(name, deed, at)
+                    trace = net.trace()
+                    self.assertEqual(len(piece), length)
+                    self.assertEqual(partners(trace, 0, 0) + partners(trace, 0, 1), [])
+                    self.assertEqual(taken(trace, 0, 0) + taken(trace, 0, 1), [])
+                    self.assertEqual((broken(net), forgeries(net.entries())), ([], []))
+
+
 class Drawn(HushCase):
     """Point 221: whatever is done, each broken claim is about an excused side."""
 
@@ -374,6 +425,11 @@ class Drawn(HushCase):
         entries = net.entries()
         if clashes(entries):
             self.assertTrue(coincidences(entries) or crossings(entries))
+        # Point 160: no number is used twice for an ephemeral secret.
+        label = tuple(b"hushlink ephemeral")
+        made = [(entry[1][0], entry[3]) for entry in entries
+                if entry[0] == "keyed" and entry[3][:len(label)] == label]
+        self.assertEqual(len(made), len(set(made)))
         return claims
 
     def drawn_net(self, drawn, suite, names):

@@ -121,6 +121,31 @@ class Structure(unittest.TestCase):
             for node in ast.walk(tree):
                 self.assertNotIsInstance(node, UNUSED_NODES, name)
 
+    def test_values_at_module_level_are_plain(self):
+        for name, tree in trees().items():
+            functions = set()
+            for node in tree.body:
+                if isinstance(node, ast.FunctionDef):
+                    functions.add(node.name)
+                if isinstance(node, ast.Assign):
+                    self.assertEqual(len(node.targets), 1, name)
+                    for part in ast.walk(node.value):
+                        self.assertNotIsInstance(part, (ast.Call, ast.Lambda, ast.Attribute), name)
+                        if isinstance(part, ast.Name):
+                            self.assertIn(part.id, functions, name)
+
+    def test_is_stands_beside_none_true_and_false(self):
+        for name, node in nodes(ast.Compare):
+            for sign, right in zip(node.ops, node.comparators):
+                if isinstance(sign, (ast.Is, ast.IsNot)):
+                    self.assertIsInstance(right, ast.Constant, name)
+
+    def test_default_values_are_plain(self):
+        for name, node in nodes((ast.FunctionDef, ast.Lambda)):
+            for value in node.args.defaults + [one for one in node.args.kw_defaults if one]:
+                ast.literal_eval(value)
+                self.assertNotIsInstance(value, (ast.List, ast.Dict), name)
+
     def test_no_decorators(self):
         for name, node in nodes((ast.FunctionDef, ast.ClassDef)):
             self.assertEqual(node.decorator_list, [], name)
@@ -163,6 +188,15 @@ class Names(unittest.TestCase):
         for name, node in nodes(ast.Call):
             if isinstance(node.func, ast.Attribute):
                 self.assertIn(node.func.attr, METHODS | own, name)
+
+    def test_methods_are_called_where_they_stand(self):
+        methods = {item.name for _, node in nodes(ast.ClassDef) for item in node.body
+                   if isinstance(item, ast.FunctionDef)}
+        for name, tree in trees().items():
+            called = {id(node.func) for node in ast.walk(tree) if isinstance(node, ast.Call)}
+            for node in ast.walk(tree):
+                if isinstance(node, ast.Attribute) and id(node) not in called:
+                    self.assertNotIn(node.attr, methods | METHODS, name)
 
     def test_no_name_is_a_method_and_an_attribute(self):
         methods = {item.name for _, node in nodes(ast.ClassDef) for item in node.body

@@ -99,10 +99,11 @@ class Constructor(NetCase):
 
     def test_errors(self):
         one, two = home(SMALL, 1), home(SMALL, 2)
-        for homes in ([one, one], [one, two, (one[0],) + two[1:]]):
+        for homes in ([one, one], [one, (one[0],) + two[1:]], [two, one, (one[0],) + two[1:]]):
             with self.assertRaises(Malformed):
                 Net(SMALL, homes)
-        Net(SMALL, [one, one[:1] + two[1:]][:1] + [two])
+        # The same secret key is allowed.
+        Net(SMALL, [one, (two[0],) + one[1:]])
         limits = {"limits": (100, 0, 999, 65536, 4)}
         for homes in ([one, two[:3] + (limits,)], [one[:3] + (limits,), two],
                       [one, two, home(SMALL, 3, **limits)]):
@@ -562,10 +563,12 @@ class Power(NetCase):
                             ("power", 0, 1001), ("crash", 2, 0, 0), ("crash", -1, 0, 0),
                             ("crash", 0, -1, 0), ("crash", 0, 0, -1), ("crash", 0, 65537, 0),
                             ("crash", 0, 0, 65537))
+        self.assertIsNone(net.homes[0].disk.left)
         self.assertEqual(len(net.do(("open", 0, 1, None, None))), 1)
         for deed in (("crash", 0, 65536, 0), ("crash", 0, 0, 65536)):
             self.assertEqual(net.do(deed)[0][:2], ("began", 0))
         net.do(("power", 0, 1000))
+        self.assertEqual(net.homes[0].disk.left, 1000)
         self.assertEqual(len(net.do(("open", 0, 1, None, None))), 1)
         net.do(("power", 0, 0))
         self.assertEqual(len(net.do(("open", 0, 1, None, None))), 1)
@@ -675,7 +678,7 @@ class Traces(NetCase):
     def test_what_is_returned_may_be_changed(self):
         net = ready_net()
         net.do(("post", 0, 0, (1, 2)))
-        before = self.seen(net)
+        before = copy.deepcopy(self.seen(net))
         for found in (net.trace(), net.entries(), net.pieces(0, 0), net.wires(), net.public_key(0),
                       net.do(("fetch", 5, 5))):
             spoil(found)
