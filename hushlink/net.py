@@ -78,8 +78,6 @@ class Net:
             act = DEEDS[word]
             act(self, *parts)
 
-    # What is there.
-
     def way(self, wire, way):
         """Return the pieces of a way themselves, an empty list if there is no such way."""
         if 0 <= wire < len(self.cables) and way in (0, 1):
@@ -99,8 +97,6 @@ class Net:
         if not 0 <= wire < len(self.cables) or side not in (0, 1):
             return False
         return not self.homes[self.cables[wire].pair[side]].is_off
-
-    # Calls of ends.
 
     def call(self, wire, side, action, first):
         """Call the end of a side: the action takes the end and its link.
@@ -128,8 +124,6 @@ class Net:
             self.story.append(("effect", wire, side, parts))
             if effect[0] == "bytes":
                 self.cables[wire].ways[side].append(list(effect[2]))
-
-    # What can be asked.
 
     def trace(self):
         """Return all entries of the trace."""
